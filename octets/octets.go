@@ -21,8 +21,9 @@ func number(n int) string {
 		at--
 		b[at] = byte(n)
 	}
-	k := len(b) - at
-	return string([]byte{byte(k)}) + string(b[at:])
+	at--
+	b[at] = byte(len(b) - 1 - at)
+	return string(b[at:])
 }
 
 // Text lays a text: its length, and it.
