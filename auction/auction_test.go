@@ -68,6 +68,8 @@ func TestWin(t *testing.T) {
 	}
 	w, ok := auction.Win([]api.Bid{a}, rich(), 4, 11)
 	nobody(t, "a high floor", w, ok)
+	w, ok = auction.Win([]api.Bid{bid(4, 1, 1, 0)}, nil, 4, 0)
+	nobody(t, "no funds at all", w, ok)
 	w, ok = auction.Win([]api.Bid{bid(4, 1, 0, 0)}, []int{0, -1}, 4, 0)
 	nobody(t, "less than nothing", w, ok)
 	w, ok = auction.Win([]api.Bid{a}, rich(), -4, 0)
@@ -158,6 +160,7 @@ func TestBook(t *testing.T) {
 		}
 	}
 	newBook(t, 1<<40)
+	newBook(t, 0)
 	b := newBook(t, 3)
 	if len(b.Bids(4)) != 0 {
 		t.Error("bids in a new book")

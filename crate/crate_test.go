@@ -128,6 +128,7 @@ func TestOpenErrors(t *testing.T) {
 		{lay(2, 3, 0, "\xff"), 9, api.ErrForm}, {lay(2, 3, 0, "\x05a"), 9, api.ErrShort}, {lay(2, 3, 0, "\x80\x00\x00"), 9, api.ErrBig},
 		{lay(3, 3, 0, "\xff"), 9, api.ErrForm}, {lay(3, 3, 0, "\x00\x05"), 9, api.ErrShort}, {lay(3, 3, 0, "\x01\x81a"), 9, api.ErrBig},
 		{lay(3, 16534, 0, window.Pack(ones[2:])), 16534, api.ErrSum}, {lay(3, 16535, 0, window.Pack(ones)), 16535, api.ErrBig},
+		{lay(3, 16535, 0, window.Pack(ones[4:]+"\x01ab")), 16535, api.ErrBig},
 		{lay(3, 16533, 0, window.Pack(ones[2:])), 16534, api.ErrBig}, {lay(3, 16535, 0, window.Pack(ones[2:])), 16535, api.ErrForm},
 		{lay(0, 3, sum("aa"), "aa"), 9, api.ErrForm}, {lay(0, 3, sum("aaaa"), "aaaa"), 9, api.ErrForm}, {lay(1, 4, sum("aaa"), "\x80a"), 9, api.ErrForm},
 		{lay(2, 5, sum("lane"), "\x80\x00\x2e"), 9, api.ErrForm}, {lay(3, 4, sum("aaa"), "\x01\x80a"), 9, api.ErrForm},

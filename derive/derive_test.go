@@ -119,6 +119,7 @@ func TestInbox(t *testing.T) {
 	want(t, "one more than there are", chain(items{mail("m")}, items{mail("n"), post(0, 0, 0, "", "")}, items{post(1, 0, 0, "")}), 3, 1, 2, in("m"))
 	want(t, "mixed", chain(items{mail("m"), mail("n"), mail("o")}, items{post(0, 0, 0, "", a, "")}, items{post(1, 3, 2, a, "")}), 3, 3, 2, in("m"), paid(a), in("n"), paid(a), in("o"))
 	want(t, "fewer", chain(items{mail("m"), mail("n")}, items{post(0, 0, 0, "")}), 3, 1, 1, in("m"))
+	want(t, "a post that is a message", chain(items{mail(post(0, 0, 0, a).Text)}, items{post(0, 0, 0, "")}), 3, 1, 1, in(post(0, 0, 0, a).Text))
 	want(t, "two batches, one message", chain(items{mail("m")}, items{post(0, 0, 0, ""), post(1, 1, 1, ""), post(2, 1, 1, a)}), 3, 1, 3, in("m"), paid(a))
 }
 

@@ -92,8 +92,14 @@ func TestAdd(t *testing.T) {
 	add(t, l, api.MDelayed, text(1, 1), 6)
 	add(t, l, api.MDelayed, strings.Repeat("a", 656), 6)
 	add(t, l, api.MTx, text(63, 0), top)
-	if l.Next(1) != 2 || l.Next(63) != 1 || l.Next(0) != 0 {
-		t.Error(l.Next(1), l.Next(63), l.Next(0))
+	if l.Next(1) != 2 || l.Next(63) != 1 || l.Next(0) != 0 || l.Taken(9) != 2 {
+		t.Error(l.Next(1), l.Next(63), l.Next(0), l.Taken(9))
+	}
+	add(t, l, api.MTx, text(0, 0), top)
+	refused(t, l, api.MTx, text(0, 0), top, api.ErrNonce)
+	add(t, l, api.MTx, text(0, 1), top)
+	if l.Next(0) != 2 || l.Taken(9) != 2 {
+		t.Error(l.Next(0), l.Taken(9))
 	}
 	for _, who := range []int{-1, 64, math.MinInt, math.MaxInt} {
 		if l.Next(who) != 0 {

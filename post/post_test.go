@@ -71,7 +71,8 @@ func TestLook(t *testing.T) {
 	// Fewer cuts, and fewer that landed: what is beyond stays out, and is not told.
 	look(t, p, 20, 3, 4, []int{3}, []int{3, 4})
 	look(t, p, 20, 0, 9, []int{0, 1, 2}, []int{0, 1, 2, 3, 4})
-	look(t, p, 30, 9, 3, nil, nil)
+	look(t, p, 30, 4, 0, nil, []int{4})
+	look(t, p, 30, 9, 0, nil, nil)
 }
 
 func TestGreatNumbers(t *testing.T) {

@@ -274,7 +274,8 @@ func TestSubmitErrors(t *testing.T) {
 	ended(t, w, a, api.ErrFull)
 	waits(t, w, b)
 	waits(t, w, c)
-	// What was taken out has left the gate.
+	// What was taken out has left the gate: it is the pool that refuses it.
+	ended(t, w, send(t, w, plain(1, 0, 2)), api.ErrFull)
 	d := send(t, w, plain(1, 0, 5))
 	ended(t, w, b, api.ErrFull)
 	ticks(t, w, 1)

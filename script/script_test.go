@@ -274,6 +274,10 @@ func TestChain(t *testing.T) {
 		"item", "ok", "ok", "item", "ok", "ok", "ok", "show 0 - down 5 0 0 0", "item", "ok", "ok", "show 0 - down 7 0 0 0")
 	answers(t, "delayed 1 61\nmine 0 1\nmine 0 1\nmine 0 1\nforce 1\nmine 0 1\nforce 1\nmine 0 1\nmine 0 1\nshow",
 		"item", "ok", "ok", "ok", "item", "ok", "item", "ok", "ok", "show 0 - down 6 1 1 0")
+	// Each of them stands in one block, by a mine or a turn.
+	calm := strings.Repeat("mine 0 0\n", 5)
+	answers(t, "delayed 1 61\nmine 0 1\n"+calm+"force 9\nmine 0 1\nmine 0 1\nshow", "item", "ok", "ok", "ok", "ok", "ok", "ok", "item", "ok", "ok", "show 0 - down 8 1 1 0")
+	answers(t, "delayed 1 61\nturn 0 1\n"+calm+"force 9\nturn 1 1\nmine 0 1\nshow", "item", "ok", "ok", "ok", "ok", "ok", "ok", "item", "ok", "ok", "show 0 - down 8 1 1 0")
 	answers(t, "turn 1 0\nturn 1099511627776 0\nturn 0 7\nturn 1 7\nturn 2 7\nturn 3 7\nshow\nstart\nshow", "error 32", "error 32", "ok", "ok", "ok", "ok", "show 0 - down 4 0 0 0", "ok", "show 0 - halted 4 0 0 0")
 }
 

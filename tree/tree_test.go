@@ -261,6 +261,14 @@ func TestFull(t *testing.T) {
 	if e := d.Turn(0, make([][]api.Item, 1), 0); e != api.ErrFull {
 		t.Error(int(e))
 	}
+	f := newChain(t, 0)
+	f.Turn(0, make([][]api.Item, 4000), 0)
+	if e := f.Turn(50, make([][]api.Item, 147), 0); e != api.ErrFull || f.Height() != 4000 {
+		t.Error(int(e))
+	}
+	if e := f.Turn(50, make([][]api.Item, 146), 0); e != api.OK || f.Height() != 4096 {
+		t.Error(int(e))
+	}
 }
 
 func TestNil(t *testing.T) {

@@ -155,6 +155,7 @@ func TestUnpackErrors(t *testing.T) {
 		{"", -1, api.ErrArg}, {b(255), -1, api.ErrArg}, {"", math.MinInt, api.ErrArg},
 		{b(255), 0, api.ErrForm}, {b(255, 0, 0), 9, api.ErrForm}, {b(0, 'a', 255), 9, api.ErrForm},
 		{b(0), 9, api.ErrShort}, {b(1, 'a'), 0, api.ErrShort}, {b(128), 9, api.ErrShort}, {b(128, 0), 9, api.ErrShort}, {b(254, 255), 0, api.ErrShort},
+		{b(0, 'a', 1, 'b'), 9, api.ErrShort}, {b(0, 'a', 128, 0), 9, api.ErrShort}, {b(0, 'a', 0), 9, api.ErrShort},
 		{b(128, 128, 0), 9, api.ErrForm}, {b(128, 255, 255), 0, api.ErrForm}, {b(128, 127, 255), 9, api.ErrForm}, {b(128, 0, 68), 9, api.ErrForm}, {b(128, 0, 68), 0, api.ErrForm},
 		{b(0, 'a', 128, 0, 69), 9, api.ErrForm},
 		{b(128, 0, 0), 3, api.ErrBig}, {b(0, 'a'), 0, api.ErrBig}, {b(1, 'a', 'b'), 1, api.ErrBig}, {b(254, 0, 0), 129, api.ErrBig}, {b(0, 'a', 128, 0, 0), 4, api.ErrBig},
