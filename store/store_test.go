@@ -210,8 +210,9 @@ func TestCompact(t *testing.T) {
 		cuts = append(cuts, c)
 	}
 	add(t, s, l, 2, "last", 9)
-	want(t, "compact", s.Compact(), api.OK)
 	looks(t, s, l, cuts, 0)
+	want(t, "compact", s.Compact(), api.OK)
+	looks(t, s, l, cuts, 5)
 	var lay []string
 	for _, r := range l.From(0) {
 		lay = append(lay, receiptRecord(r))
@@ -223,10 +224,58 @@ func TestCompact(t *testing.T) {
 		t.Error("laid otherwise")
 	}
 	add(t, s, l, 2, "more", 9)
+	looks(t, s, l, cuts, 5)
 	d.Crash(nil)
 	got := open(t, d)
 	if len(got.From(0)) != 5 || !slices.Equal(got.Cuts(), cuts) || got.Released() != 5 {
 		t.Error("what was laid anew is not safe")
+	}
+}
+
+// Sync and Compact release all receipts alike, in whatever order they are called.
+func TestReleased(t *testing.T) {
+	calls := []func(s *store.Store) api.Errno{(*store.Store).Compact, (*store.Store).Sync, (*store.Store).Sync, (*store.Store).Compact, (*store.Store).Compact}
+	d, l := disk.New(), order.New()
+	s := open(t, d)
+	for i, call := range calls {
+		want(t, "nothing more", call(s), api.OK)
+		looks(t, s, l, nil, l.Len())
+		add(t, s, l, api.MDelayed, "a", i)
+		add(t, s, l, api.MTx, text(1, i), i)
+		looks(t, s, l, nil, l.Len()-2)
+		want(t, "release", call(s), api.OK)
+		looks(t, s, l, nil, l.Len())
+		d.Crash(nil)
+		s = open(t, d)
+		looks(t, s, l, nil, l.Len())
+	}
+}
+
+// Wherever the journal fails, in Sync or in Compact, nothing is released, and the store is broken.
+func TestReleaseFails(t *testing.T) {
+	for i, c := range []struct {
+		call  func(s *store.Store) api.Errno
+		steps int // what the call asks of the disk
+	}{{(*store.Store).Sync, 1}, {(*store.Store).Compact, 3}} {
+		for n := range c.steps + 1 {
+			d, l := disk.New(), order.New()
+			s := open(t, d)
+			add(t, s, l, api.MDelayed, "a", 3)
+			want(t, "sync", s.Sync(), api.OK)
+			add(t, s, l, api.MDelayed, "b", 3)
+			d.Arm(n)
+			if n == c.steps {
+				want(t, "armed too late", c.call(s), api.OK)
+				looks(t, s, l, nil, 2)
+				continue
+			}
+			want(t, strconv.Itoa(i)+" armed with "+strconv.Itoa(n), c.call(s), api.ErrDown)
+			looks(t, s, l, nil, 1)
+			d.Crash(nil)
+			want(t, "sync", s.Sync(), api.ErrDown)
+			want(t, "compact", s.Compact(), api.ErrDown)
+			looks(t, s, l, nil, 1)
+		}
 	}
 }
 
@@ -385,17 +434,17 @@ func TestNothingReleasedIsLost(t *testing.T) {
 				case k < 9:
 					if e = s.Sync(); e == api.OK {
 						released, safeCuts = len(all), len(cuts)
-						if s.Released() != released {
-							t.Fatal(s.Released(), released)
-						}
 					}
 				default:
 					if e = s.Compact(); e == api.OK {
-						released, safeCuts = max(released, s.Released()), len(cuts)
+						released, safeCuts = len(all), len(cuts)
 					}
 				}
+				if s.Released() != released {
+					t.Fatal(s.Released(), released)
+				}
 			}
-			if s.Released() > released || !slices.Equal(s.From(0), all) || !slices.Equal(s.Cuts(), cuts) {
+			if !slices.Equal(s.From(0), all) || !slices.Equal(s.Cuts(), cuts) {
 				t.Fatal("it tells something else than what was added")
 			}
 			d.Crash([]int{r.Intn(200), r.Intn(200)})
