@@ -365,15 +365,16 @@ func TestBroken(t *testing.T) {
 		want(t, "first "+strconv.Itoa(i), call(s), api.ErrDown)
 		looks(t, s, l, []api.Cut{c}, 2)
 		d.Crash(nil)
-		for _, call := range calls {
-			want(t, "then", call(s), api.ErrDown)
-		}
+		// What meets no journal comes first: what follows could break the store by itself.
 		want(t, "ask", s.Ask(1, "x", -1), api.ErrDown)
 		if _, e := s.Add(1, "x", -1); e != api.ErrDown {
 			t.Error(int(e))
 		}
 		if _, e := s.Cut(0); e != api.ErrDown {
 			t.Error(int(e))
+		}
+		for _, call := range calls {
+			want(t, "then", call(s), api.ErrDown)
 		}
 		looks(t, s, l, []api.Cut{c}, 2)
 	}
